@@ -1,0 +1,1 @@
+"""Caseslive: all processes that fit a log, at once."""

@@ -27,7 +27,8 @@ def states_from(rule, start):
     found = [start]
     done = 0
     while done < len(found):
-        for state in rule.moves[found[done]]:
+        row = rule.moves[found[done]]
+        for state in row:
             if state not in found:
                 found.append(state)
         done += 1

@@ -79,6 +79,16 @@ def windows_of(size, trace):
     return neighbors(size, (START,) * marks + tuple(trace) + (END,) * marks)
 
 
+def windows_to(size, trace):
+    """The windows that a process needs to reach the trace, each once."""
+    return neighbors(size, (START,) * (size - 1) + tuple(trace))
+
+
+def windows_behind(size, tail):
+    """The windows that a process needs to stop where the tail is the end of a trace."""
+    return neighbors(size, tuple(tail) + (END,) * (size - 1))
+
+
 def has_windows(process, windows):
     """Whether the process has all of the windows."""
     for window in windows:
@@ -110,5 +120,4 @@ def next_tails(process, names, tail):
 
 def can_stop(process, tail):
     """Whether the process can stop where the tail is the end of a trace."""
-    signs = tuple(tail) + (END,) * (process.size - 1)
-    return has_windows(process, neighbors(process.size, signs))
+    return has_windows(process, windows_behind(process.size, tail))

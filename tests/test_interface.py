@@ -18,6 +18,7 @@ CLASSES = {
     },
     "rules": {"Rule": {"__init__": "(self, accepting, moves)"}},
     "processes": {"Process": {"__init__": "(self, size, windows)"}},
+    "settings": {"Setting": {"__init__": "(self, names, size, rules=(), optional=())"}},
 }
 FUNCTIONS = {
     "rules": {
@@ -31,6 +32,23 @@ FUNCTIONS = {
         "tail_of": "(size, trace)",
         "next_tails": "(process, names, tail)",
         "can_stop": "(process, tail)",
+    },
+    "breaks": {"first_break": "(process, names, rules)"},
+    "settings": {
+        "least_process": "(setting, traces)",
+        "free_windows": "(setting, traces)",
+        "fits": "(setting, traces, numbers)",
+    },
+    "answers": {
+        "answer": "(setting, traces, running, activity)",
+        "variants": "(running, late, places, names)",
+        "certain_answer": "(setting, traces, running, activity, late, places)",
+    },
+    "choices": {
+        "greatest_sets": "(setting, traces)",
+        "refused_sets": "(setting, traces)",
+        "traces_aside": "(setting, traces)",
+        "rules_aside": "(setting, traces)",
     },
 }
 

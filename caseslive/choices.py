@@ -42,7 +42,7 @@ def rules_aside(setting, traces):
     least = checked_family(setting, traces).least
     # A process is right for some rules if and only if it is right for each of them.
     broken = []
-    for index, rule in enumerate(setting.kept_rules):
+    for index, rule in enumerate(setting.rules):
         if first_break(least, setting.names, [rule]) is not None:
             broken.append(index)
     return [tuple(broken)]

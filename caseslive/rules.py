@@ -9,6 +9,11 @@ class Rule:
         self.moves = tuple([tuple(row) for row in moves])
 
 
+def copies_of(rules):
+    """Copies of the rules, because attributes of a rule that was passed can be assigned later."""
+    return tuple([Rule(rule.accepting, rule.moves) for rule in rules])
+
+
 def state_after(rule, names, trace):
     """The state of the rule after the trace."""
     state = 0

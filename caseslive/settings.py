@@ -3,7 +3,7 @@
 from caseslive.breaks import first_break
 from caseslive.errors import InvalidSetting
 from caseslive.processes import END, START, Process, is_sign, is_size, is_well_formed, windows_of
-from caseslive.rules import Rule
+from caseslive.rules import copies_of
 
 MOST_NAMES = 5
 MOST_LETTERS = 8
@@ -33,8 +33,8 @@ def check_names(names):
         raise InvalidSetting("a name occurs twice")
 
 
-def is_state(value, many):
-    """Whether the value is the index of a state; True and False are not integers here."""
+def is_index(value, many):
+    """Whether the value is an index of so many; True and False are not integers here."""
     if not isinstance(value, int) or isinstance(value, bool):
         return False
     return 0 <= value < many
@@ -52,7 +52,7 @@ def check_rule(rule, names):
         if len(row) != len(names):
             raise InvalidSetting("moves have a state for each activity")
         for state in row:
-            if not is_state(state, many):
+            if not is_index(state, many):
                 raise InvalidSetting("moves lead to the index of a state")
 
 
@@ -94,9 +94,7 @@ class Setting:
         check_optional(optional, size, names)
         self.names = tuple(names)
         self.size = size
-        self.rules = tuple(rules)
-        # Copies, because the attributes of a rule that was passed can be assigned later.
-        self.kept_rules = tuple([Rule(rule.accepting, rule.moves) for rule in rules])
+        self.rules = copies_of(rules)
         self.optional = tuple([tuple(window) for window in optional])
 
 
@@ -122,7 +120,7 @@ def free_windows(setting, traces):
 def is_right_with(setting, least, windows):
     """Whether the least process with these windows is right for the rules of the setting."""
     process = Process(setting.size, least.windows + tuple(windows))
-    return first_break(process, setting.names, setting.kept_rules) is None
+    return first_break(process, setting.names, setting.rules) is None
 
 
 def fits(setting, traces, numbers):

@@ -3,6 +3,8 @@
 import itertools
 import unittest
 
+from caseslive.answers import answer
+from caseslive.choices import greatest_sets, refused_sets, rules_aside, traces_aside
 from caseslive.errors import CaseError, InvalidSetting, TooLarge
 from caseslive.processes import Process, allows
 from caseslive.rules import Rule
@@ -16,6 +18,11 @@ NAMES = ["ask", "pay", "send"]
 LOOSE = Rule([True], [[0, 0, 0]])
 
 
+def contents(rules):
+    """What the rules hold, because a setting has copies of those that it was passed."""
+    return tuple((rule.accepting, rule.moves) for rule in rules)
+
+
 def stepping(many, names):
     """A rule with so many states."""
     return Rule([True] * many, [[state] * len(names) for state in range(many)])
@@ -26,7 +33,7 @@ class Attributes(unittest.TestCase):
         setting = Setting(NAMES, 2, [LOOSE], [["pay", ">"], ("<", "pay")])
         self.assertEqual(setting.names, ("ask", "pay", "send"))
         self.assertEqual(setting.size, 2)
-        self.assertEqual(setting.rules, (LOOSE,))
+        self.assertEqual(contents(setting.rules), (((True,), ((0, 0, 0),)),))
         self.assertEqual(setting.optional, (("pay", ">"), ("<", "pay")))
 
     def test_kinds(self):
@@ -36,6 +43,7 @@ class Attributes(unittest.TestCase):
             self.assertIs(type(setting.names), tuple)
             self.assertIs(type(setting.size), int)
             self.assertIs(type(setting.rules), tuple)
+            self.assertEqual([type(rule) for rule in setting.rules], [Rule])
             self.assertIs(type(setting.optional), tuple)
             self.assertEqual([type(window) for window in setting.optional], [tuple, tuple])
 
@@ -59,18 +67,51 @@ class Attributes(unittest.TestCase):
         optional[0][1] = "b"
         optional.pop()
         self.assertEqual(setting.names, ("a", "b"))
-        self.assertEqual(setting.rules, (rule,))
+        self.assertEqual(contents(setting.rules), contents([rule]))
         self.assertEqual(setting.optional, (("a", "a"), ("b", ">")))
         self.assertIs(fits(setting, [["a"]], [0]), False)
         self.assertIs(fits(setting, [["a"]], [1]), True)
 
     def test_changes_of_a_rule_that_was_passed(self):
         rule = at_most(["a"], "a", 1)
+        kept = contents([rule])
         setting = Setting(["a"], 2, [rule], [("a", "a")])
         rule.accepting = (True, True, True)
+        self.assertEqual(contents(setting.rules), kept)
         self.assertIs(fits(setting, [["a"]], [0]), False)
         rule.moves = ((1,), (2,))
+        self.assertEqual(contents(setting.rules), kept)
         self.assertIs(fits(setting, [["a"]], []), True)
+
+    def test_changes_of_a_rule_that_is_passed_twice(self):
+        rule = at_most(["a"], "a", 1)
+        first, second = Setting(["a"], 2, [rule]), Setting(["a"], 2, [rule, rule])
+        first.rules[0].accepting = (False, False, False)
+        second.rules[0].accepting = (False, False, True)
+        self.assertEqual(rule.accepting, (True, True, False))
+        self.assertEqual(second.rules[1].accepting, (True, True, False))
+        third = Setting(["a"], 2, first.rules)
+        first.rules[0].accepting = (True, True, True)
+        self.assertEqual(third.rules[0].accepting, (False, False, False))
+
+    def test_rules_with_lists(self):
+        rule = Rule([True], [[0]])
+        rule.accepting, rule.moves = [True, False], [[1], [1]]
+        setting = Setting(["a"], 2, [rule])
+        rule.accepting[1] = True
+        rule.moves[0][0] = 0
+        self.assertEqual(contents(setting.rules), (((True, False), ((1,), (1,))),))
+        self.assertIs(fits(setting, [["a"]], []), False)
+
+    def test_changes_of_rules_in_every_question(self):
+        rules = [at_most(["a", "b"], "a", 1)]
+        setting = Setting(["a", "b"], 2, rules, [("a", "a")])
+        rules[0].accepting = (False, False, False)
+        self.assertEqual(answer(setting, [["a"]], [], "a"), (True,) * 4)
+        self.assertEqual(greatest_sets(setting, [["a"]]), [()])
+        self.assertEqual(refused_sets(setting, [["a"]]), [(0,)])
+        self.assertEqual(traces_aside(setting, [["a"]]), [()])
+        self.assertEqual(rules_aside(setting, [["a"]]), [()])
 
     def test_what_is_passed_is_not_modified(self):
         names, rules, optional = ["a", "b"], [stepping(2, "ab")], [["a", "a"], ["b", ">"]]
@@ -104,11 +145,12 @@ class Bounds(unittest.TestCase):
         for many in range(1, 7):
             for names in [["a"], list("abcde")]:
                 rule = stepping(many, names)
-                self.assertEqual(Setting(names, 1, (rule, rule, rule)).rules, (rule,) * 3)
+                found = Setting(names, 1, (rule, rule, rule)).rules
+                self.assertEqual(contents(found), contents([rule] * 3))
 
     def test_moves_to_the_first_and_the_last_state(self):
         rule = Rule([True] * 5 + [False], [[0, 5]] * 6)
-        self.assertEqual(Setting(["a", "b"], 1, [rule]).rules, (rule,))
+        self.assertEqual(contents(Setting(["a", "b"], 1, [rule]).rules), contents([rule]))
 
     def test_optional_windows(self):
         eight = list(itertools.product(["ask", "pay", "send"], repeat=2))[:8]

@@ -38,8 +38,9 @@ def is_well_formed(size, window):
 def check_window(size, window):
     """Raise InvalidProcess if the tuple is not a well formed window of the size."""
     signs = [sign for sign in window if is_sign(sign)]
+    # The text does not show the window: Python refuses to write numbers of very many digits.
     if len(window) != size or len(signs) != size:
-        raise InvalidProcess(f"not {size} signs: {window!r}")
+        raise InvalidProcess(f"a window does not have {size} signs")
     if not is_well_formed(size, window):
         raise InvalidProcess(f"marks at a wrong place, or too many: {window!r}")
 

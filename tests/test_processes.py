@@ -142,7 +142,7 @@ class Attributes(unittest.TestCase):
 
 class Invalid(unittest.TestCase):
     def refuse(self, size, windows):
-        with self.assertRaises(InvalidProcess, msg=(size, windows)):
+        with self.assertRaises(InvalidProcess):
             Process(size, windows)
 
     def test_sizes(self):
@@ -215,7 +215,8 @@ class Invalid(unittest.TestCase):
         self.assertEqual(len(Process(2, [("a", "b"), ("b", "a")]).windows), 2)
 
     def test_what_is_no_sign_does_not_count_as_one(self):
-        for sign in ["", "A", "pay now", "a1", "<<", "<>", "-", "\u00e9", 5, None, ["a"]]:
+        for sign in ["", "A", "pay now", "a1", "<<", "<>", "-", "\u00e9", 5, 10 ** 5000, None,
+                     ["a"]]:
             self.refuse(1, [(sign,)])
             self.refuse(2, [("a", sign)])
             self.refuse(1, [("a", sign)])

@@ -182,6 +182,30 @@ def some_windows(draw, size, names):
     return windows
 
 
+def free_process(size, names):
+    """The process with all well formed windows."""
+    return Process(size, some_windows(random.Random(1), size, names))
+
+
+def some_process(draw, size, names, part):
+    """A process that has about so much of the well formed windows, a number from 0 to 1."""
+    windows = some_windows(draw, size, names)
+    return Process(size, [window for window in windows if draw.random() < part])
+
+
+def reaches_by_trying(process, trace):
+    """Whether the process has all windows in front of the end of the marked trace."""
+    signs = ("<",) * (process.size - 1) + tuple(trace)
+    places = range(len(signs) - process.size + 1)
+    return all(signs[place:place + process.size] in process.windows for place in places)
+
+
+def tail_by_trying(size, trace):
+    """The tail of the trace."""
+    signs = ["<"] * (size - 1) + list(trace)
+    return tuple(signs[len(signs) - size + 1:])
+
+
 def some_rule(draw, names):
     """A rule that accepts in most of its states."""
     many = draw.randint(1, 4)

@@ -9,16 +9,12 @@ from caseslive.errors import CaseError, TooLarge
 from caseslive.processes import Process, windows_of
 from caseslive.rules import Rule
 from tests.helpers import (
-    FOUR, WALKS, allows_by_trying, at_most, capped_rules, counting, rejecting, round_rules,
-    some_rule, some_windows, spots_by_trying, state_by_trying, traces_up_to, windows_by_trying,
+    FOUR, WALKS, allows_by_trying, at_most, capped_rules, counting, free_process, rejecting,
+    round_rules, some_rule, some_windows, spots_by_trying, state_by_trying, traces_up_to,
+    windows_by_trying,
 )
 
 FIVE = ["a", "b", "c", "d", "e"]
-
-
-def free_process(size, names):
-    """The process with all well formed windows."""
-    return Process(size, some_windows(random.Random(1), size, names))
 
 
 def break_by_trying(process, names, rules, length):

@@ -19,7 +19,21 @@ CLASSES = {
     "rules": {"Rule": {"__init__": "(self, accepting, moves)"}},
     "processes": {"Process": {"__init__": "(self, size, windows)"}},
     "settings": {"Setting": {"__init__": "(self, names, size, rules=(), optional=())"}},
+    "control": {"Net": {
+        "__init__": "(self, process, names, rules, ours)", "count": "(self)",
+        "node_of": "(self, trace)", "moves_of": "(self, node)", "is_final": "(self, node)",
+        "is_good": "(self, node)", "allowed": "(self, trace)", "ranks": "(self)",
+        "first_fault": "(self, ranks)",
+    }},
+    "logs": {"Log": {
+        "__init__": "(self, setting)", "begin": "(self)", "put": "(self, case, place, activity)",
+        "drop": "(self, case, place)", "complete": "(self, case)", "reopen": "(self, case)",
+        "switch": "(self, rule, on)", "traces": "(self)", "is_completed": "(self, case)",
+        "completed": "(self)", "is_on": "(self, rule)", "verdicts": "(self)", "stale": "(self)",
+        "journal": "(self)",
+    }},
 }
+PROPERTIES = {"logs": {"Log": ["work"]}}
 FUNCTIONS = {
     "rules": {
         "state_after": "(rule, names, trace)",
@@ -50,6 +64,17 @@ FUNCTIONS = {
         "traces_aside": "(setting, traces)",
         "rules_aside": "(setting, traces)",
     },
+    "alignments": {
+        "tails_of": "(process, names)",
+        "prices": "(process, names, trace, costs)",
+        "align": "(process, names, trace, costs)",
+        "first_fault": "(process, names, trace, costs, given)",
+    },
+    "changes": {
+        "can_move": "(process, names, rules, trace)",
+        "first_difference": "(first, second, names)",
+    },
+    "logs": {"replay": "(setting, text)"},
 }
 
 
@@ -68,6 +93,13 @@ class Interface(unittest.TestCase):
                 for method, parameters in methods.items():
                     found = vars(getattr(loaded, name))[method]
                     self.assertEqual(str(inspect.signature(found)), parameters, (name, method))
+
+    def test_properties(self):
+        for module, classes in PROPERTIES.items():
+            loaded = importlib.import_module("caseslive." + module)
+            for name, properties in classes.items():
+                for word in properties:
+                    self.assertIsInstance(vars(getattr(loaded, name))[word], property)
 
     def test_functions(self):
         for module, functions in FUNCTIONS.items():

@@ -30,6 +30,14 @@ CAUGHT = {"KeyError", "ZeroDivisionError", "StopIteration", "ValueError", "Looku
           "IndexError"}
 BARRED_NAMES = {"register", "mro", "elements", "open", "input", "law", "version_info",
                 "with_traceback", "add_note"}
+# L12: names that are barred, and what names of variables, functions and classes do not begin with.
+BARRED_PRIVATE = {"_cold", "_tuplegetter", "_outside", "_record", "_written_out", "_member_names"}
+BARRED_BEGINNINGS = ("_wall", "_pe_", "_dcw_", "_enum_", "_cm_", "_twin_re_", "_lay_", "_law_",
+                     "_stub_", "_sre", "_WallAttr")
+# L26: what no attribute and what no method is called.
+BARRED_ATTRIBUTES = {"items", "keys", "values", "pop", "update", "append", "clear", "extend",
+                     "insert", "remove", "reverse", "setdefault", "sort", "args", "encode",
+                     "decode", "hex", "fromhex", "format"}
 DOUBLE = {
     "__init__", "__eq__", "__repr__", "__str__", "__len__", "__enter__", "__exit__", "__call__",
     "__iter__", "__lt__", "__le__", "__gt__", "__ge__", "__ne__", "__contains__",
@@ -245,6 +253,44 @@ class Names(unittest.TestCase):
                     self.assertIn(word, DOUBLE, name)
                 else:
                     self.assertTrue(re.fullmatch(r"_|_?[A-Za-z][A-Za-z0-9_]*", word), word)
+
+    def test_barred_private_names(self):
+        for name, tree in trees():
+            attributes = [node.attr for node in ast.walk(tree) if isinstance(node, ast.Attribute)]
+            for word in bound_names(tree) + attributes:
+                self.assertNotIn(word.rstrip("0123456789_"), BARRED_PRIVATE, name)
+            for word in bound_names(tree):
+                self.assertFalse(word.startswith(BARRED_BEGINNINGS), (name, word))
+
+    def test_attributes(self):
+        for name, tree in trees():
+            for node in ast.walk(tree):
+                if isinstance(node, ast.Attribute) and isinstance(node.ctx, ast.Store):
+                    self.assertNotIn(node.attr, BARRED_ATTRIBUTES, name)
+
+    def test_no_name_is_a_method_and_an_attribute_of_one_class(self):
+        for name, tree in trees():
+            for part in tree.body:
+                if isinstance(part, ast.ClassDef):
+                    methods = [node.name for node in part.body if isinstance(node, ast.FunctionDef)]
+                    stored = {node.attr for node in ast.walk(part) if isinstance(node, ast.Attribute)
+                              and isinstance(node.ctx, ast.Store)}
+                    self.assertEqual(len(methods), len(set(methods)), (name, part.name))
+                    self.assertEqual(stored & set(methods), set(), (name, part.name))
+
+    def test_no_variable_has_the_name_of_an_import_or_a_class(self):
+        for name, tree in trees():
+            taken = set()
+            for part in tree.body:
+                if isinstance(part, ast.ClassDef):
+                    taken.add(part.name)
+                elif isinstance(part, ast.ImportFrom):
+                    taken.update(alias.name for alias in part.names)
+            for node in ast.walk(tree):
+                if isinstance(node, ast.Name) and isinstance(node.ctx, ast.Store):
+                    self.assertNotIn(node.id, taken, name)
+                elif isinstance(node, ast.arg):
+                    self.assertNotIn(node.arg, taken, name)
 
     def test_barred_words(self):
         words = re.compile(r"\b(typing|enum|Enum|Protocol|Generic|ABC|namedtuple|NamedTuple)\b"
